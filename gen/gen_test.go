@@ -11,6 +11,7 @@ import (
 
 	"adit/api"
 	"adit/dice"
+	"adit/ents"
 	"adit/grid"
 )
 
@@ -487,6 +488,15 @@ func TestStats(t *testing.T) {
 		}[kind]
 		if got := stats(kind); got != want {
 			t.Errorf("P401: kind %d: %+v, not %+v", kind, got, want)
+		}
+	}
+}
+
+// TestStatsAreThoseOfEnts: the numbers stand twice, and must stay the same.
+func TestStatsAreThoseOfEnts(t *testing.T) {
+	for _, kind := range []int{api.ERat, api.EOrc, api.EMage} {
+		if got, want := stats(kind), ents.Stats(kind); got != want {
+			t.Errorf("P401: kind %d: %+v, not ents.Stats, %+v", kind, got, want)
 		}
 	}
 }
